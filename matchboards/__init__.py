@@ -1,0 +1,1 @@
+"""Matchboards: scorers read from their boards."""
