@@ -9,6 +9,10 @@ FOLDER = pathlib.Path(__file__).resolve().parent.parent / "matchboards"
 INTERFACE = {
     "rules": ("is_rule", "is_rally", "is_row", "all_rules"),
     "running": ("boards_of", "state_after", "states_along", "points_made", "winner_of", "end_of"),
+    "reaching": ("count_states", "row_to", "boards_that_come"),
+    "reading": ("first_bar", "made", "remains", "bars"),
+    "seeing": ("can_show", "showers", "first_row", "states_behind", "count_rows"),
+    "telling": ("same", "telling_row", "classes", "telling_table", "same_winners", "winners_row"),
 }
 LIBRARY = {"heapq", "math", "itertools", "collections", "__future__"}
 
