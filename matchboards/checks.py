@@ -8,6 +8,7 @@ SIGHTS = (0, 1, 2)
 LARGEST_FAMILY = 8
 LONGEST_BOARD_ROW = 60
 MOST_RECORDS = 12
+LONGEST_LENGTH = 60
 # The greatest value of each item of a state; the least one is 0.
 STATE_LIMITS = (1, 5, 5, 3, 3, 1)
 
@@ -77,6 +78,12 @@ def check_sight(value):
     """Raise BadNumber if a value is not a sight."""
     if not is_number_of(value, SIGHTS):
         raise BadNumber("not a sight: 0, 1 or 2")
+
+
+def check_length(value):
+    """Raise BadNumber if a value is not a length of rows that can be counted."""
+    if not is_number_up_to(value, LONGEST_LENGTH):
+        raise BadNumber("not a number from 0 to 60")
 
 
 def check_state(value):

@@ -2,6 +2,7 @@
 
 from matchboards.checks import check_family, check_rule, check_sight
 from matchboards.errors import NotFound
+from matchboards.grouping import places_by_mark
 from matchboards.moves import Moves, pairs_behind, row_to_goal
 from matchboards.steps import FIRST_STATE, board_of, match_winner
 
@@ -22,11 +23,7 @@ def telling_row(one, other, sight):
 def classes(family, sight):
     """Return the ascending list of the groups of places of rules that are alike."""
     # A rule is alike to itself, so each list of the table has a None, the first at the least place alike.
-    leasts = [lengths.index(None) for lengths in telling_table(family, sight)]
-    return [
-        [place for place, least in enumerate(leasts) if least == first]
-        for first in sorted(set(leasts))
-    ]
+    return places_by_mark([lengths.index(None) for lengths in telling_table(family, sight)])
 
 
 def telling_table(family, sight):

@@ -2,14 +2,16 @@
 
 import copy
 
-from matchboards.errors import BadBoards, BadNumber, BadRule, NotFound
+from matchboards.errors import BadBoards, BadNumber, BadRally, BadRule, NotFound
 from tests import wrong
 
 # What a kind of argument is: its error, and its wrong values in a sight.
 KINDS = {
     "rule": (BadRule, lambda sight: wrong.wrong_rules()),
     "family": (BadRule, lambda sight: wrong.wrong_families()),
+    "row": (BadRally, lambda sight: wrong.wrong_rows()),
     "sight": (BadNumber, lambda sight: wrong.wrong_sights()),
+    "length": (BadNumber, lambda sight: wrong.wrong_lengths()),
     "state": (BadBoards, lambda sight: wrong.wrong_states()),
     "boards": (BadBoards, wrong.wrong_board_rows),
     "record": (BadBoards, wrong.wrong_records),

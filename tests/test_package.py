@@ -12,6 +12,9 @@ INTERFACE = {
     "reaching": ("count_states", "row_to", "boards_that_come"),
     "reading": ("first_bar", "made", "remains", "bars"),
     "seeing": ("can_show", "showers", "first_row", "states_behind", "count_rows"),
+    "spoken": ("is_within", "telling_boards", "spoken_classes"),
+    "finding": ("rallies_needed", "finding_plan", "parting_row", "groups"),
+    "choosing": ("best_rally", "count_same"),
     "telling": ("same", "telling_row", "classes", "telling_table", "same_winners", "winners_row"),
 }
 LIBRARY = {"heapq", "math", "itertools", "collections", "__future__"}

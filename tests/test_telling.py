@@ -5,21 +5,11 @@ from matchboards.rules import all_rules
 from matchboards.running import boards_of, winner_of
 from matchboards.telling import classes, same, same_winners, telling_row, telling_table, winners_row
 from tests import arguments, scoring, searching
+from tests.pairs import some_pairs
 
 P = (2, "two", 1, "same", "games")
 Q = (2, "cap", 1, "same", "winner")
 SIGHTS = (0, 1, 2)
-
-
-def some_pairs():
-    """Return pairs of rules: some taken from everywhere, and those that differ in one item."""
-    rules = all_rules()
-    pairs = [(rules[k], rules[(k * 7 + 13 * step) % 216]) for k in range(216) for step in range(3)]
-    for k, rule in enumerate(rules):
-        for other in rules[k + 1:]:
-            if len([item for item, its in zip(rule, other) if item != its]) == 1:
-                pairs.append((rule, other))
-    return pairs
 
 
 def same_in(one, other, sight):

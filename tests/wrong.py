@@ -62,6 +62,11 @@ def wrong_sights():
     return others() + [3, -1, -2, 4, 10 ** 30, True, False, [], [0], (0,), (1,), "1", "2"]
 
 
+def wrong_lengths():
+    """Return values that are no lengths of rows."""
+    return others() + [-1, 61, -60, 62, 200, 10 ** 30, -(10 ** 30), True, False, [], [0], (0,), (60,), "1", "60"]
+
+
 def wrong_families():
     """Return values that are no families."""
     good = GOOD_RULE
