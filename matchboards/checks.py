@@ -1,9 +1,10 @@
 """The checks of arguments, one for each kind; each raises the error of its kind."""
 
 from matchboards.errors import BadBoards, BadNumber, BadRally, BadRule
-from matchboards.rules import is_number_of, is_row, is_rule
+from matchboards.rules import is_number_of, is_rally, is_row, is_rule
 from matchboards.steps import board_of
 
+SIDES = (0, 1)
 SIGHTS = (0, 1, 2)
 LARGEST_FAMILY = 8
 LONGEST_BOARD_ROW = 60
@@ -46,6 +47,14 @@ def is_board_row(value, sight):
     return all([is_board(board, sight) for board in value])
 
 
+def sight_of_boards(value):
+    """Return the least sight in which a value is a board row, or None."""
+    for sight in SIGHTS:
+        if is_board_row(value, sight):
+            return sight
+    return None
+
+
 def is_record(value, sight):
     """Return whether a value is a record: a tuple of a row and a board row as long."""
     if not isinstance(value, tuple) or len(value) != 2:
@@ -72,6 +81,18 @@ def check_row(value):
     """Raise BadRally if a value is not a row."""
     if not is_row(value):
         raise BadRally("not a list of at most 60 rallies")
+
+
+def check_rally(value):
+    """Raise BadRally if a value is not a rally."""
+    if not is_rally(value):
+        raise BadRally("not a rally: 0 or 1")
+
+
+def check_side(value):
+    """Raise BadNumber if a value is not a side."""
+    if not is_number_of(value, SIDES):
+        raise BadNumber("not a side: 0 or 1")
 
 
 def check_sight(value):

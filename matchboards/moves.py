@@ -30,11 +30,16 @@ def pairs_behind(one, other, pair):
 def states_that_come(rule):
     """Return the list of the states that rows of any length lead to."""
     moves = Moves(rule)
-    come = {FIRST_STATE: True}
-    waiting = deque([FIRST_STATE])
+    return places_that_come(FIRST_STATE, moves.behind)
+
+
+def places_that_come(start, behind):
+    """Return the list of a start and all places that rallies lead to from there; behind tells as below."""
+    come = {start: True}
+    waiting = deque([start])
     while waiting:
-        state = waiting.popleft()
-        for further in moves.behind(state):
+        place = waiting.popleft()
+        for further in behind(place):
             if further not in come:
                 come[further] = True
                 waiting.append(further)

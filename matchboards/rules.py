@@ -43,7 +43,7 @@ def is_row(value):
     """Return whether a value is a row: a list of at most 60 rallies."""
     if not isinstance(value, list) or len(value) > LONGEST_ROW:
         return False
-    return all(is_rally(rally) for rally in value)
+    return all([is_rally(rally) for rally in value])
 
 
 def all_rules():

@@ -2,20 +2,24 @@
 
 import copy
 
-from matchboards.errors import BadBoards, BadNumber, BadRally, BadRule, NotFound
+from matchboards.errors import BadBoards, BadNumber, BadRally, BadRule, BadText, NotFound
 from tests import wrong
 
 # What a kind of argument is: its error, and its wrong values in a sight.
 KINDS = {
     "rule": (BadRule, lambda sight: wrong.wrong_rules()),
     "family": (BadRule, lambda sight: wrong.wrong_families()),
+    "rally": (BadRally, lambda sight: wrong.wrong_rallies()),
     "row": (BadRally, lambda sight: wrong.wrong_rows()),
     "sight": (BadNumber, lambda sight: wrong.wrong_sights()),
+    "side": (BadNumber, lambda sight: wrong.wrong_sides()),
     "length": (BadNumber, lambda sight: wrong.wrong_lengths()),
     "state": (BadBoards, lambda sight: wrong.wrong_states()),
     "boards": (BadBoards, wrong.wrong_board_rows),
+    "boards of some sight": (BadBoards, lambda sight: wrong.wrong_board_rows_of_all_sights()),
     "record": (BadBoards, wrong.wrong_records),
     "records": (BadBoards, wrong.wrong_record_lists),
+    "text": (BadText, lambda sight: wrong.wrong_texts()),
 }
 # A few values that no argument may be, for the arguments behind the first wrong one.
 ALWAYS_WRONG = (None, True, "0", {}, wrong.Odd())

@@ -15,6 +15,10 @@ INTERFACE = {
     "spoken": ("is_within", "telling_boards", "spoken_classes"),
     "finding": ("rallies_needed", "finding_plan", "parting_row", "groups"),
     "choosing": ("best_rally", "count_same"),
+    "kinds": ("alike_groups", "count_kinds"),
+    "matches": ("shortest_match", "longest_match", "count_ends", "fewest_points", "lost_lead", "soonest"),
+    "tables": ("Table",),
+    "texts": ("format_rule", "format_row", "format_boards", "parse_rule", "parse_row", "parse_boards"),
     "telling": ("same", "telling_row", "classes", "telling_table", "same_winners", "winners_row"),
 }
 LIBRARY = {"heapq", "math", "itertools", "collections", "__future__"}

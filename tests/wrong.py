@@ -62,6 +62,11 @@ def wrong_sights():
     return others() + [3, -1, -2, 4, 10 ** 30, True, False, [], [0], (0,), (1,), "1", "2"]
 
 
+def wrong_sides():
+    """Return values that are no sides."""
+    return wrong_rallies() + ["1", (0, 1), [0, 1], 60]
+
+
 def wrong_lengths():
     """Return values that are no lengths of rows."""
     return others() + [-1, 61, -60, 62, 200, 10 ** 30, -(10 ** 30), True, False, [], [0], (0,), (60,), "1", "60"]
@@ -125,6 +130,37 @@ def wrong_board_rows(sight):
     for board in wrong_boards(sight):
         rows += [[board], [good, board], [board, good], [good] * 59 + [board], [good] * 60 + [board]]
     return rows
+
+
+def is_board_of_some_sight(value):
+    """Return whether a value is a board, whichever the sight is."""
+    if type(value) is int:
+        return value in (0, 1)
+    limits = {2: (3, 3), 5: (1, 5, 5, 3, 3)}
+    if type(value) is not tuple or len(value) not in limits:
+        return False
+    return all(type(item) is int and 0 <= item <= limit for item, limit in zip(value, limits[len(value)]))
+
+
+def wrong_board_rows_of_all_sights():
+    """Return values that are no board rows of one sight, whichever it is."""
+    rows = others() + [0, 1, -1, True, False, [[]], [None] * 60]
+    for sight, good in enumerate(GOOD_BOARDS):
+        rows += [(good,), (good,) * 60, {good: good}, [[good]], [(good,)], [good] * 61, [good] * 200]
+        rows += [[good, other] for other in GOOD_BOARDS if other != good]
+        rows += [[other] * 59 + [good] for other in GOOD_BOARDS if other != good]
+        for board in wrong_boards(sight):
+            if not is_board_of_some_sight(board):
+                rows += [[board], [good, board], [board, good], [good] * 59 + [board]]
+    return rows
+
+
+def wrong_texts():
+    """Return values that are no texts."""
+    return [value for value in others() if not isinstance(value, str)] + [
+        0, 1, -1, 10, 10 ** 30, True, False, [], [0], ["0"], ("0",), b"0", b"01", b"2 two 1 same games", {"0": "0"},
+        GOOD_RULE, ["2", "two", "1", "same", "games"], [(0, 0)],
+    ]
 
 
 def wrong_records(sight):
